@@ -1,0 +1,1 @@
+"""Grants handed on, and taken back."""
