@@ -81,10 +81,17 @@ def how_many_new_givers(before, after):
     return len([grant for grant in after if grant.giver != giver_before[grant.number]])
 
 
+def numbers_gone(before, after):
+    kept = [grant.number for grant in after]
+    return [grant.number for grant in before if grant.number not in kept]
+
+
+def users_with(right, grants):
+    """The users, rising, who have the right by these grants."""
+    return [user for user in range(1, LAST_USER + 1) if what_user_has(user, right, grants) > 0]
+
+
 def users_with_less(right, before, after):
     """The users, rising, who have less of the right by the grants after than by those before."""
-    users = []
-    for user in range(1, LAST_USER + 1):
-        if what_user_has(user, right, after) < what_user_has(user, right, before):
-            users.append(user)
-    return users
+    return [user for user in users_with(right, before)
+            if what_user_has(user, right, after) < what_user_has(user, right, before)]

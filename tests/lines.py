@@ -5,6 +5,7 @@ from grantsback.house import answers
 BIG = 4294967295
 
 UNFIT = (-1,)
+NO_NUMBER = (-2,)
 NO_GRANT = (-3,)
 FULL = (-5,)
 NOT_ALLOWED = (-6,)
@@ -32,6 +33,30 @@ def leave(u):
 
 def has(u, r):
     return [5, u, r]
+
+
+def chain(u, r):
+    return [6, u, r]
+
+
+def behind(n):
+    return [7, n]
+
+
+def fewest(u, r):
+    return [8, u, r]
+
+
+def users(r):
+    return [9, r]
+
+
+def grants(r):
+    return [10, r]
+
+
+def lose(a, b, r):
+    return [11, a, b, r]
 
 
 def joined(calls):
@@ -71,4 +96,5 @@ def pairs(calls, r):
 
 def state(calls):
     """All that the answers let one see of the house after the calls."""
-    return [(holdings(calls, r), pairs(calls, r)) for r in range(1, 5)]
+    return [(holdings(calls, r), pairs(calls, r), last(*calls, grants(r)), last(*calls, grant(0, 1, r, 0)))
+            for r in range(1, 5)]

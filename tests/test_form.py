@@ -25,6 +25,10 @@ OWN_METHODS_OF_PYTHON = {
     "keys", "lower", "lstrip", "partition", "pop", "remove", "replace", "reverse", "setdefault", "split", "startswith",
     "strip", "update", "upper", "values", "bit_length",
 }
+KEYWORDS = {
+    "sorted": {"key", "reverse"}, "min": {"key", "default"}, "max": {"key", "default"}, "sum": {"start"},
+    "enumerate": {"start"}, "zip": {"strict"},
+}
 WORDS_OUT = re.compile(
     r"\b(type|typing|typing_extensions|enum|Enum|IntEnum|StrEnum|Flag|IntFlag|Generic|Protocol|ABC|ABCMeta|namedtuple"
     r"|NamedTuple|TypedDict|TYPE_CHECKING|abstractmethod)\b|dataclass|overload|contextmanager")
@@ -106,6 +110,32 @@ class Form(unittest.TestCase):
             for name in node.names:
                 self.assertIsNone(name.asname)
                 self.assertNotEqual(name.name, "*")
+
+    def test_imports_are_from_the_very_file_and_go_in_no_circle(self):
+        drawn = {}
+        defined = {}
+        for path, text, tree in self.each():
+            rows = [node for node in tree.body if isinstance(node, ast.ImportFrom)]
+            drawn[path.stem] = {row.module.split(".")[1] for row in rows}
+            own = [node for node in tree.body if isinstance(node, (ast.FunctionDef, ast.ClassDef, ast.Assign))]
+            defined[path.stem] = [node.targets[0].id if isinstance(node, ast.Assign) else node.name for node in own]
+        for node in self.walk(ast.ImportFrom):
+            for name in node.names:
+                self.assertIn(name.name, defined[node.module.split(".")[1]])
+        done = set()
+        while len(done) < len(drawn):
+            free = {stem for stem in drawn if stem not in done and drawn[stem] <= done}
+            self.assertNotEqual(free, set())
+            done |= free
+
+    def test_comprehensions_and_keywords(self):
+        for node in self.walk(ast.ListComp):
+            self.assertEqual(len(node.generators), 1)
+            self.assertLessEqual(len(node.generators[0].ifs), 1)
+        for node in self.walk(ast.Call):
+            if node.keywords:
+                self.assertIsInstance(node.func, ast.Name)
+                self.assertLessEqual({keyword.arg for keyword in node.keywords}, KEYWORDS.get(node.func.id, set()))
 
     def test_names(self):
         python = set(dir(__import__("builtins")))

@@ -2,16 +2,57 @@ import unittest
 
 from grantsback.house import answers
 from tests.lines import BIG
-from tests.lines import ask, careful, grant, has, joined, leave, over, revoke
+from tests.lines import ask, behind, careful, chain, fewest, grant, grants, has, joined, leave, lose, over, revoke
+from tests.lines import users
 
-EVERY_CALL = [grant(0, 1, 1, 1), grant(1, 2, 1, 1), grant(2, 3, 1, 1), grant(3, 4, 1, 0), has(4, 1), over(1, 2, 1),
-              careful(1, 3, 1), careful(3, 4, 1), revoke(1, 3, 1), leave(1), has(1, 1)]
+# Each call, and its answer as it stands in the list that is given back.
+ASKED_AND_ANSWERED = [
+    (grant(0, 1, 1, 1), [1, 1]),
+    (grant(1, 2, 1, 1), [1, 2]),
+    (grant(2, 3, 1, 1), [1, 3]),
+    (grant(3, 4, 1, 0), [1, 4]),
+    (has(4, 1), [1, 1]),
+    (chain(4, 1), [5, 4, 1, 2, 3, 4]),
+    (behind(3), [3, 2, 3, 4]),
+    (fewest(4, 1), [2, 1, 1]),
+    (users(1), [5, 4, 1, 2, 3, 4]),
+    (grants(1), [17, 4, 1, 0, 1, 1, 2, 1, 2, 1, 3, 2, 3, 1, 4, 3, 4, 0]),
+    (lose(2, 3, 1), [3, 2, 3, 4]),
+    (over(1, 2, 1), [2, 1, 1]),
+    (has(2, 1), [1, 0]),
+    (chain(4, 1), [4, 3, 1, 3, 4]),
+    (behind(2), [1, -2]),
+    (fewest(2, 1), [1, -3]),
+    (users(1), [4, 3, 1, 3, 4]),
+    (grants(1), [13, 3, 1, 0, 1, 1, 3, 1, 3, 1, 4, 3, 4, 0]),
+    (lose(2, 3, 1), [1, -3]),
+    (careful(1, 3, 1), [1, -6]),
+    (lose(1, 3, 1), [3, 2, 3, 4]),
+    (careful(3, 4, 1), [1, 1]),
+    (chain(3, 1), [3, 2, 1, 3]),
+    (behind(1), [3, 2, 1, 3]),
+    (fewest(3, 1), [2, 1, 1]),
+    (lose(1, 3, 1), [2, 1, 3]),
+    (revoke(1, 3, 1), [1, 1]),
+    (users(1), [2, 1, 1]),
+    (grants(1), [5, 1, 1, 0, 1, 1]),
+    (leave(1), [1, 1]),
+    (has(1, 1), [1, 0]),
+    (chain(1, 1), [1, -3]),
+    (behind(1), [1, -2]),
+    (fewest(1, 1), [1, -3]),
+    (users(1), [1, 0]),
+    (grants(1), [1, 0]),
+    (lose(0, 1, 1), [1, -3]),
+    (grant(0, 1, 1, 1), [1, 5]),
+]
+EVERY_CALL = [call for call, answer in ASKED_AND_ANSWERED]
 
 
 class Form(unittest.TestCase):
     def test_how_many_numbers_then_these(self):
-        self.assertEqual(answers(joined(EVERY_CALL)),
-                         [1, 1, 1, 2, 1, 3, 1, 4, 1, 1, 2, 1, 1, 1, -6, 1, 1, 1, 1, 1, 1, 1, 0])
+        self.assertEqual({call[0] for call in EVERY_CALL}, set(range(12)))
+        self.assertEqual(answers(joined(EVERY_CALL)), joined(answer for call, answer in ASKED_AND_ANSWERED))
 
     def test_a_refusal_stands_alone(self):
         self.assertEqual(answers(joined([over(0, 1, 1), over(13, 1, 1)])), [1, -3, 1, -1])
@@ -19,6 +60,12 @@ class Form(unittest.TestCase):
     def test_one_call(self):
         self.assertEqual(answers([4, 1]), [1, 0])
         self.assertEqual(answers([5, 1, 1]), [1, 0])
+        self.assertEqual(answers([6, 1, 1]), [1, -3])
+        self.assertEqual(answers([7, 1]), [1, -2])
+        self.assertEqual(answers([8, 1, 1]), [1, -3])
+        self.assertEqual(answers([9, 1]), [1, 0])
+        self.assertEqual(answers([10, 1]), [1, 0])
+        self.assertEqual(answers([11, 0, 1, 1]), [1, -3])
 
     def test_kinds(self):
         answered = answers(joined(EVERY_CALL + [has(0, 0), grant(5, 6, 1, 0), revoke(0, 1, 1)]))
@@ -27,8 +74,9 @@ class Form(unittest.TestCase):
 
     def test_the_greatest_numbers(self):
         line = [[0, BIG, BIG, BIG, BIG], [1, BIG, BIG, BIG], [2, BIG, BIG, BIG], [3, BIG, BIG, BIG], [4, BIG],
-                [5, BIG, BIG]]
-        self.assertEqual(answers(joined(line)), [1, -1] * 6)
+                [5, BIG, BIG], [6, BIG, BIG], [8, BIG, BIG], [9, BIG], [10, BIG], [11, BIG, BIG, BIG]]
+        self.assertEqual(answers(joined(line)), [1, -1] * 11)
+        self.assertEqual(answers([7, BIG]), [1, -2])
 
 
 class Sixty(unittest.TestCase):
@@ -43,6 +91,11 @@ class Sixty(unittest.TestCase):
     def test_sixty_calls_that_make_and_take(self):
         line = [grant(0, 1, 1, 1), revoke(0, 1, 1)] * 30
         self.assertEqual(ask(*line), [answer for n in range(1, 31) for answer in ((n,), (1,))])
+
+    def test_sixty_calls_with_the_longest_answers(self):
+        line = [grant(0, 1, 1, 1)] * 14 + [grants(1)] * 46
+        told = tuple([14] + joined([n, 0, 1, 1] for n in range(1, 15)))
+        self.assertEqual(ask(*line)[14:], [told] * 46)
 
 
 class Guarded(list):
